@@ -30,7 +30,7 @@ func torn(record string, keep int) (string, bool) {
 	return record[:keep], false
 }
 
-func TestJournalOfTheFirstExample(t *testing.T) { // P11, example 5, as far as it needs no Tick
+func TestJournalOfTheFirstExample(t *testing.T) { // P11, example 5: which record comes by which call
 	h := fresh(t, plain)
 	h.journal()
 	h.init(0, 1, api.OK)
@@ -306,6 +306,7 @@ func isDown(h hand) {
 		h.breaks(keep, api.ErrDown)
 	}
 	h.crash(api.ErrDown)
+	h.tick(api.ErrDown)
 	h.stays(before)
 }
 
@@ -343,7 +344,7 @@ func TestCrashOfANewHerald(t *testing.T) { // P12
 	h.stays(before)
 }
 
-func TestRestartKeepsDecisions(t *testing.T) { // P12, example 6 as far as it needs no Tick
+func TestRestartKeepsDecisions(t *testing.T) { // P12
 	for _, commit := range []bool{true, false} {
 		h := fresh(t, plain)
 		h.init(0, 1, api.OK)
@@ -390,4 +391,219 @@ func TestRestartKeepsAllProducersApart(t *testing.T) { // P12
 		h.producer(4, ongoing(5, 1, 0, 1, 2))
 		h.producer(5, idle(0, 0))
 	}
+}
+
+func TestBreakInATick(t *testing.T) { // P9, P12
+	for _, keep := range keeps() {
+		h := begun(t, plain, 0, 1)
+		h.produce(0, 1, 0, "a", api.OK)
+		h.ticks(4)
+		h.breaks(keep, api.OK)
+		h.tick(api.ErrDown)
+		written, whole := torn(record(3, 0, 0, 1), keep)
+		h.journal(record(1, 0, 0, 1), record(2, 0, 0, 1), record(2, 0, 1, 1), written)
+		isDown(h)
+		h.restart(api.OK)
+		if whole {
+			h.producer(0, ending(1, 1, false, 0, 1))
+			h.tick(api.OK)
+			h.flight(marker(0, 0, 1, false), marker(1, 0, 1, false))
+			continue
+		}
+		h.producer(0, ongoing(1, 1, 0, 1))
+		h.ticks(4) // a restart is as if it had spoken
+		h.producer(0, ongoing(1, 1, 0, 1))
+		h.end(0, 1, true, api.OK) // and it may be committed still
+		h.tick(api.OK)
+		h.flight(marker(0, 0, 1, true), marker(1, 0, 1, true))
+	}
+}
+
+// mixed is a herald at whose next Tick a marker of producer 0 is sent, 1 and 2 have been silent for too long, and a marker of 3 is sent.
+func mixed(t *testing.T) hand {
+	t.Helper()
+	h := fresh(t, api.Config{Producers: 4, Parts: 2, Timeout: 2, Backoff: 4})
+	for n := range 4 {
+		h.init(n, 1, api.OK)
+		h.add(n, 1, 0, api.OK)
+	}
+	h.tick(api.OK)
+	h.end(0, 1, true, api.OK)
+	h.end(3, 1, true, api.OK)
+	return h
+}
+
+func TestABreakEndsATick(t *testing.T) { // P12: what stands ahead of it is done, what stands behind it is not
+	for _, keep := range keeps() {
+		h := mixed(t)
+		before := h.Journal()
+		h.breaks(keep, api.OK)
+		h.tick(api.ErrDown)
+		written, whole := torn(record(3, 1, 0, 1), keep)
+		h.journal(before, written)
+		h.flight(marker(0, 0, 1, true))
+		h.restart(api.OK)
+		if whole {
+			h.producer(1, ending(1, 1, false, 0))
+		} else {
+			h.producer(1, ongoing(1, 1, 0))
+		}
+		h.producer(2, ongoing(1, 1, 0))
+		h.producer(3, ending(1, 1, true, 0))
+	}
+}
+
+func TestABreakIsOverBehindIt(t *testing.T) { // P12: the same Tick without one
+	h := mixed(t)
+	before := h.Journal()
+	h.tick(api.OK)
+	h.journal(before, record(3, 1, 0, 1), record(3, 2, 0, 1))
+	h.flight(marker(0, 0, 1, true), marker(0, 3, 1, true))
+}
+
+func TestBreakInADeliver(t *testing.T) { // P10, P12
+	for _, keep := range keeps() {
+		h := decided(t, plain, true, 0, 1)
+		h.tick(api.OK)
+		h.breaks(keep, api.OK)
+		before := h.Journal()
+		h.deliver(0, api.OK) // a part writes nothing into the journal
+		h.deliver(0, api.OK)
+		h.deliver(1, api.OK) // and one that is pending still lets nothing be written
+		h.producer(0, waiting(1, 1, true, []int{0, 1}, []int{0}))
+		h.journal(before)
+		h.copies(0, api.OK)
+		h.deliver(0, api.OK)
+		written, whole := torn(record(4, 0, 0, 1), keep)
+		h.journal(before, written)
+		h.flight(ack(0, 0, 1, true))
+		isDown(h)
+		h.restart(api.OK)
+		h.flight(ack(0, 0, 1, true))
+		if whole {
+			h.producer(0, idle(1, 1))
+			h.add(0, 1, 0, api.OK)
+			h.producer(0, ongoing(1, 2, 0))
+			continue
+		}
+		h.producer(0, ending(1, 1, true, 0, 1)) // all of them are pending again
+		h.deliver(0, api.OK)
+		h.tick(api.OK)
+		h.flight(marker(1, 0, 1, true))
+		h.round(1)
+		h.producer(0, idle(1, 1))
+		h.journal(before, record(4, 0, 0, 1))
+	}
+}
+
+func TestBreakInTheAcknowledgementsOfARound(t *testing.T) { // P12, P13
+	for _, keep := range keeps() {
+		c := api.Config{Producers: 4, Parts: 2, Timeout: 1, Backoff: 1}
+		h := turned(t, c, []int{1, 0, 1}, []int{0, 1, 2})
+		before := h.Journal()
+		h.breaks(keep, api.OK)
+		h.round(3)
+		written, whole := torn(record(4, 1, 0, 1), keep)
+		h.journal(before, written)
+		h.flight() // those behind it came to nobody, and no time went by
+		h.entries(0, closed(1, 1, true))
+		h.entries(1, closed(0, 1, true), closed(2, 1, true))
+		isDown(h)
+		h.restart(api.OK)
+		h.producer(0, ending(1, 1, true, 1))
+		h.producer(2, ending(1, 1, true, 1))
+		if whole {
+			h.producer(1, idle(1, 1))
+			h.round(0)
+			h.flight(marker(1, 0, 1, true), marker(1, 2, 1, true))
+		} else {
+			h.producer(1, ending(1, 1, true, 0))
+			h.round(0)
+			h.flight(marker(1, 0, 1, true), marker(0, 1, 1, true), marker(1, 2, 1, true))
+		}
+	}
+}
+
+func TestBreakInALaterAcknowledgementOfARound(t *testing.T) { // P12, P13: what came ahead of it counts
+	h := turned(t, api.Config{Producers: 4, Parts: 2, Timeout: 1, Backoff: 1}, []int{1, 0, 1}, []int{0, 1, 2})
+	h.deliver(1, api.OK)
+	h.deliver(2, api.OK)
+	h.producer(1, idle(1, 1))
+	h.breaks(5, api.OK)
+	before := h.Journal()
+	h.round(2)
+	h.journal(before, done(0)[:5])
+	h.restart(api.OK)
+	h.producer(0, ending(1, 1, true, 1))
+	h.producer(1, idle(1, 1))
+	h.producer(2, ending(1, 1, true, 1))
+}
+
+func TestBreakInTheTickOfARound(t *testing.T) { // P12, P13
+	for _, keep := range keeps() {
+		h := mixed(t)
+		before := h.Journal()
+		h.breaks(keep, api.OK)
+		h.round(0)
+		written, whole := torn(record(3, 1, 0, 1), keep)
+		h.journal(before, written)
+		h.flight(marker(0, 0, 1, true))
+		isDown(h)
+		h.restart(api.OK)
+		if whole {
+			h.producer(1, ending(1, 1, false, 0))
+		} else {
+			h.producer(1, ongoing(1, 1, 0))
+		}
+		h.producer(2, ongoing(1, 1, 0))
+	}
+}
+
+func TestRestartMakesMarkersDue(t *testing.T) { // P12: at the next Tick, and by and by as from the beginning
+	h := decided(t, plain, true, 0, 1)
+	h.tick(api.OK)
+	h.deliver(0, api.OK)
+	h.deliver(1, api.OK)
+	h.producer(0, waiting(1, 1, true, []int{0, 1}, []int{1}))
+	sentAt(h, 9) // the next one is due in 3 ticks
+	h.crash(api.OK)
+	h.restart(api.OK)
+	h.producer(0, ending(1, 1, true, 0, 1)) // of acknowledgements the journal has nothing
+	h.tick(api.OK)
+	h.flight(marker(0, 0, 1, true), marker(1, 0, 1, true))
+	h.dropAll()
+	if got := sentAt(h, 11); len(got) != 4 || got[0] != 1 || got[1] != 3 || got[2] != 7 || got[3] != 11 {
+		t.Errorf("the next ones are sent at %v", got)
+	}
+}
+
+func TestTimeStandsStillWhileTheKeeperIsDown(t *testing.T) { // P12
+	h := fresh(t, plain)
+	for n := range 2 {
+		h.init(n, 1, api.OK)
+		h.add(n, 1, n, api.OK)
+	}
+	h.end(1, 1, true, api.OK)
+	h.ticks(3)
+	h.crash(api.OK)
+	h.dropAll()
+	for range 30 {
+		h.tick(api.ErrDown)
+		h.round(0)
+	}
+	h.flight()
+	h.restart(api.OK)
+	h.ticks(4)
+	h.producer(0, ongoing(1, 1, 0))
+	h.flight(marker(1, 1, 1, true), marker(1, 1, 1, true), marker(1, 1, 1, true))
+	h.tick(api.OK)
+	h.producer(0, ending(1, 1, false, 0))
+}
+
+func TestACrashDoesNotTouchTheNetwork(t *testing.T) { // P12
+	h, m := crowd(t)
+	h.crash(api.OK)
+	h.flight(m[:]...)
+	h.restart(api.OK)
+	h.flight(m[:]...)
 }

@@ -86,6 +86,59 @@ func (h hand) restart(want api.Errno) {
 	h.is("Restart()", h.Restart(), want)
 }
 
+func (h hand) tick(want api.Errno) {
+	h.t.Helper()
+	h.is("Tick()", h.Tick(), want)
+}
+
+// ticks lets time go by, so many times.
+func (h hand) ticks(n int) {
+	h.t.Helper()
+	for range n {
+		h.tick(api.OK)
+	}
+}
+
+func (h hand) deliver(k int, want api.Errno) {
+	h.t.Helper()
+	h.is(fmt.Sprintf("Deliver(%d)", k), h.Deliver(k), want)
+}
+
+func (h hand) drop(k int, want api.Errno) {
+	h.t.Helper()
+	h.is(fmt.Sprintf("Drop(%d)", k), h.Drop(k), want)
+}
+
+// dropAll loses all that is in flight; it tells how many these were.
+func (h hand) dropAll() int {
+	h.t.Helper()
+	n := h.Flight()
+	for range n {
+		h.drop(0, api.OK)
+	}
+	h.flight()
+	return n
+}
+
+func (h hand) copies(k int, want api.Errno) {
+	h.t.Helper()
+	h.is(fmt.Sprintf("Copy(%d)", k), h.Copy(k), want)
+}
+
+func (h hand) round(want int) {
+	h.t.Helper()
+	if n := h.Round(); n != want {
+		h.t.Fatalf("Round() = %d, want %d", n, want)
+	}
+}
+
+func (h hand) flight(want ...api.Message) {
+	h.t.Helper()
+	if got := messages(h); !slices.Equal(got, want) || h.Flight() != len(want) {
+		h.t.Fatalf("in flight are %d, %+v, want %d, %+v", h.Flight(), got, len(want), want)
+	}
+}
+
 func (h hand) producer(n int, want api.Producer) {
 	h.t.Helper()
 	got, e := h.Producer(n)
@@ -139,7 +192,20 @@ type teller interface {
 	Entries(int) ([]api.Entry, api.Errno)
 	Fetch(int, int, int) ([]api.Record, api.Errno)
 	Flight() int
+	Message(int) (api.Message, api.Errno)
 	Journal() string
+}
+
+// messages is all that are in flight, asked for one by one until there is none.
+func messages(h teller) []api.Message {
+	var all []api.Message
+	for {
+		m, e := h.Message(len(all))
+		if e != api.OK {
+			return all
+		}
+		all = append(all, m)
+	}
 }
 
 // tell is all that is told, as a text.
@@ -161,7 +227,7 @@ func tell(h teller, c api.Config) string {
 			fmt.Fprintf(&b, "  fetched: %d, %d %d %q\n", e, x.Offset, x.Producer, x.Text)
 		}
 	}
-	fmt.Fprintf(&b, "%d in flight, journal %x\n", h.Flight(), h.Journal())
+	fmt.Fprintf(&b, "%d in flight: %+v\njournal %x\n", h.Flight(), messages(h), h.Journal())
 	return b.String()
 }
 
@@ -174,6 +240,23 @@ func record(kind, producer, detail, number int) string {
 
 func data(producer, txn int, text string) api.Entry {
 	return api.Entry{Kind: api.EData, Producer: producer, Txn: txn, Text: text}
+}
+
+// closed is the entry of a transaction's end.
+func closed(producer, txn int, commit bool) api.Entry {
+	kind := api.EAbort
+	if commit {
+		kind = api.ECommit
+	}
+	return api.Entry{Kind: kind, Producer: producer, Txn: txn}
+}
+
+func marker(part, producer, txn int, commit bool) api.Message {
+	return api.Message{Kind: api.MMarker, Part: part, Producer: producer, Txn: txn, Commit: commit}
+}
+
+func ack(part, producer, txn int, commit bool) api.Message {
+	return api.Message{Kind: api.MAck, Part: part, Producer: producer, Txn: txn, Commit: commit}
 }
 
 func idle(epoch, txn int) api.Producer {
@@ -191,4 +274,11 @@ func ending(epoch, txn int, commit bool, parts ...int) api.Producer {
 		status = api.Committing
 	}
 	return api.Producer{Epoch: epoch, Txn: txn, Status: status, Parts: parts, Pending: parts}
+}
+
+// waiting is one some of whose parts have acknowledged.
+func waiting(epoch, txn int, commit bool, parts, pending []int) api.Producer {
+	p := ending(epoch, txn, commit, parts...)
+	p.Pending = pending
+	return p
 }

@@ -43,6 +43,7 @@ func TestNewHerald(t *testing.T) { // P5
 			h.fetch(n, 0, 9)
 		}
 		h.journal()
+		h.flight()
 		h.restart(api.ErrUp)
 		before := tell(h, c)
 		h.init(c.Producers, 0, api.ErrProducer)
@@ -189,7 +190,7 @@ func TestAnOldEpochChangesNothing(t *testing.T) { // P7, P8, example 3
 	h.end(0, 2, true, api.OK)
 }
 
-func TestProduce(t *testing.T) { // P7, example 1 up to its Tick
+func TestProduce(t *testing.T) { // P7
 	h := fresh(t, plain)
 	h.init(0, 1, api.OK)
 	h.add(0, 1, 0, api.OK)
@@ -410,27 +411,4 @@ func TestOut(t *testing.T) { // P10
 		h.out(n, false, api.ErrPart)
 	}
 	h.stays(before)
-}
-
-func TestNothingIsInFlight(t *testing.T) { // P10, while no time goes by
-	h := fresh(t, plain)
-	h.init(0, 1, api.OK)
-	h.add(0, 1, 0, api.OK)
-	h.end(0, 1, true, api.OK)
-	for range 2 {
-		before := tell(h, plain)
-		for _, k := range []int{math.MinInt, -1, 0, 1, 99, 100, math.MaxInt} {
-			if m, e := h.Message(k); m != (api.Message{}) || e != api.ErrNone {
-				t.Errorf("Message(%d) = %+v, %d", k, m, e)
-			}
-			h.is("Deliver", h.Deliver(k), api.ErrNone)
-			h.is("Drop", h.Drop(k), api.ErrNone)
-			h.is("Copy", h.Copy(k), api.ErrNone)
-		}
-		if n := h.Flight(); n != 0 {
-			t.Errorf("Flight = %d", n)
-		}
-		h.stays(before)
-		h.Crash()
-	}
 }

@@ -1,6 +1,8 @@
 package herald
 
 import (
+	"slices"
+
 	"herald/api"
 	"herald/journal"
 )
@@ -16,6 +18,9 @@ const (
 type producer struct {
 	epoch, txn, status int
 	ties               [api.MaxParts]int
+	silent             int // for so many ticks, if it is Ongoing
+	// In how many ticks its next markers are due, and how many later those behind them are. One pair is enough for all pending parts, since they became pending together.
+	wait, gap int
 }
 
 func (p *producer) isEnding() bool {
@@ -89,11 +94,11 @@ func (k *keeper) deeds() [api.RDone + 1]func(journal.Record) {
 			for _, part := range p.tied(within) {
 				p.ties[part] = pending
 			}
+			p.wait, p.gap = 1, 1
 		},
 		api.RDone: func(r journal.Record) {
 			p := &k.producers[r.Producer]
-			p.status = api.Idle
-			p.ties = [api.MaxParts]int{}
+			*p = producer{epoch: p.epoch, txn: p.txn, status: api.Idle}
 		},
 	}
 }
@@ -131,4 +136,49 @@ func (k *keeper) end(producer int, commit bool) bool {
 		r.Detail = 1
 	}
 	return k.write(r)
+}
+
+// looks is what the keeper does at a tick: for each producer, by rising numbers, a look at it; false, if the keeper breaks in that.
+func (k *keeper) looks(c api.Config, send func(api.Message)) []func() bool {
+	var looks []func() bool
+	for n := range c.Producers {
+		looks = append(looks, func() bool {
+			p := &k.producers[n]
+			switch {
+			case p.status == api.Ongoing:
+				p.silent++
+				return p.silent < c.Timeout || k.end(n, false)
+			case p.isEnding():
+				k.remind(n, c.Backoff, send)
+			}
+			return true
+		})
+	}
+	return looks
+}
+
+// remind sends a producer's markers to the pending parts, if they are due.
+func (k *keeper) remind(producer int, backoff int, send func(api.Message)) {
+	p := &k.producers[producer]
+	p.wait--
+	if p.wait > 0 {
+		return
+	}
+	for _, part := range p.tied(pending) {
+		send(api.Message{Kind: api.MMarker, Part: part, Producer: producer, Txn: p.txn, Commit: p.status == api.Committing})
+	}
+	p.wait, p.gap = p.gap, min(2*p.gap, backoff)
+}
+
+// receive lets an acknowledgement arrive.
+func (k *keeper) receive(ack api.Message) {
+	p := &k.producers[ack.Producer]
+	if !k.up || !p.isEnding() || p.txn != ack.Txn {
+		return
+	}
+	if slices.Equal(p.tied(pending), []int{ack.Part}) {
+		k.write(journal.Record{Kind: api.RDone, Producer: ack.Producer, Number: p.txn})
+		return
+	}
+	p.ties[ack.Part] = within
 }

@@ -20,13 +20,13 @@ func steps() []struct {
 		{journal.Record{Kind: api.REpoch, Producer: 1, Number: 1}, [2]producer{{}, one}},
 		{journal.Record{Kind: api.REpoch, Producer: 0, Number: 1}, [2]producer{{epoch: 1}, one}},
 		{journal.Record{Kind: api.REpoch, Producer: 0, Number: 2}, [2]producer{{epoch: 2}, one}},
-		{journal.Record{Kind: api.RAdd, Producer: 0, Detail: 2, Number: 1}, [2]producer{{2, 1, api.Ongoing, [4]int{2: within}}, one}},
-		{journal.Record{Kind: api.RAdd, Producer: 0, Detail: 0, Number: 1}, [2]producer{{2, 1, api.Ongoing, [4]int{0: within, 2: within}}, one}},
-		{journal.Record{Kind: api.REnd, Producer: 0, Detail: 1, Number: 1}, [2]producer{{2, 1, api.Committing, [4]int{0: pending, 2: pending}}, one}},
+		{journal.Record{Kind: api.RAdd, Producer: 0, Detail: 2, Number: 1}, [2]producer{{epoch: 2, txn: 1, status: api.Ongoing, ties: [4]int{2: within}}, one}},
+		{journal.Record{Kind: api.RAdd, Producer: 0, Detail: 0, Number: 1}, [2]producer{{epoch: 2, txn: 1, status: api.Ongoing, ties: [4]int{0: within, 2: within}}, one}},
+		{journal.Record{Kind: api.REnd, Producer: 0, Detail: 1, Number: 1}, [2]producer{{epoch: 2, txn: 1, status: api.Committing, ties: [4]int{0: pending, 2: pending}, wait: 1, gap: 1}, one}},
 		{journal.Record{Kind: api.RDone, Producer: 0, Number: 1}, [2]producer{{epoch: 2, txn: 1}, one}},
 		{journal.Record{Kind: api.REpoch, Producer: 0, Number: 3}, [2]producer{{epoch: 3, txn: 1}, one}},
-		{journal.Record{Kind: api.RAdd, Producer: 0, Detail: 3, Number: 2}, [2]producer{{3, 2, api.Ongoing, [4]int{3: within}}, one}},
-		{journal.Record{Kind: api.REnd, Producer: 0, Detail: 0, Number: 2}, [2]producer{{3, 2, api.Aborting, [4]int{3: pending}}, one}},
+		{journal.Record{Kind: api.RAdd, Producer: 0, Detail: 3, Number: 2}, [2]producer{{epoch: 3, txn: 2, status: api.Ongoing, ties: [4]int{3: within}}, one}},
+		{journal.Record{Kind: api.REnd, Producer: 0, Detail: 0, Number: 2}, [2]producer{{epoch: 3, txn: 2, status: api.Aborting, ties: [4]int{3: pending}, wait: 1, gap: 1}, one}},
 		{journal.Record{Kind: api.RDone, Producer: 0, Number: 2}, [2]producer{{epoch: 3, txn: 2}, one}},
 	}
 }
@@ -77,7 +77,7 @@ func TestAddBeginsTheNextTransaction(t *testing.T) { // P7: behind one that has 
 	if !k.add(0, 1) || !k.add(0, 3) {
 		t.Fatal("add broke")
 	}
-	if got, want := k.producers[0], (producer{3, 3, api.Ongoing, [4]int{1: within, 3: within}}); got != want {
+	if got, want := k.producers[0], (producer{epoch: 3, txn: 3, status: api.Ongoing, ties: [4]int{1: within, 3: within}}); got != want {
 		t.Errorf("%+v, want %+v", got, want)
 	}
 }

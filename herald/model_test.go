@@ -1,11 +1,8 @@
 package herald_test
 
 import (
-	"math"
-	"math/rand"
 	"slices"
 	"strings"
-	"testing"
 
 	"herald/api"
 	"herald/part"
@@ -23,6 +20,12 @@ type model struct {
 	keep  []int // of a break that waits, if one does
 	out   []bool
 	logs  []*part.Log
+
+	time   int
+	spoke  [api.MaxProducers]int                 // when a producer was not silent last
+	acked  [api.MaxProducers][api.MaxParts]bool  // which parts have acknowledged the end of its transaction
+	told   [api.MaxProducers][api.MaxParts][]int // and when they were sent markers of it
+	flight []api.Message
 }
 
 func newModel(c api.Config) *model {
@@ -44,10 +47,31 @@ func (m *model) at(producer int) api.Producer {
 			p.Txn, p.Status, p.Parts = d.number, api.Ongoing, append(p.Parts, d.detail)
 			slices.Sort(p.Parts)
 		case d.kind == api.REnd:
-			p.Status, p.Pending = []int{api.Aborting, api.Committing}[d.detail], p.Parts
+			p.Status = []int{api.Aborting, api.Committing}[d.detail]
+		case d.kind == api.RDone:
+			p.Status, p.Parts = api.Idle, nil
+		}
+	}
+	if p.Status == api.Committing || p.Status == api.Aborting {
+		for _, part := range p.Parts {
+			if !m.acked[producer][part] {
+				p.Pending = append(p.Pending, part)
+			}
 		}
 	}
 	return p
+}
+
+// abort is what is done to an Ongoing producer, and end what is done by its own will.
+func (m *model) abort(producer int) bool { return m.end(producer, 0) }
+
+func (m *model) end(producer, commit int) bool {
+	if !m.note(api.REnd, producer, commit, m.at(producer).Txn) {
+		return false
+	}
+	m.acked[producer] = [api.MaxParts]bool{}
+	m.told[producer] = [api.MaxParts][]int{}
+	return true
 }
 
 // note puts a deed into the journal; false, if the keeper breaks in it.
@@ -97,7 +121,7 @@ func (m *model) Init(producer int) (int, api.Errno) {
 	p := m.at(producer)
 	switch e := first(when(api.ErrProducer, m.noProducer(producer)), when(api.ErrDown, !m.up), when(api.ErrBusy, p.Status != api.Idle)); {
 	case e == api.ErrBusy && p.Status == api.Ongoing:
-		m.note(api.REnd, producer, 0, p.Txn)
+		m.abort(producer)
 		return 0, e
 	case e != api.OK:
 		return 0, e
@@ -130,6 +154,7 @@ func (m *model) Add(producer, epoch, part int) api.Errno {
 		return api.ErrDown
 	}
 	m.logs[part].Open(producer, txn)
+	m.spoke[producer] = m.time
 	return api.OK
 }
 
@@ -155,7 +180,10 @@ func (m *model) Produce(producer, epoch, part int, text string) api.Errno {
 	if e != api.OK {
 		return e
 	}
-	return m.logs[part].Append(producer, p.Txn, text)
+	if e = m.logs[part].Append(producer, p.Txn, text); e == api.OK {
+		m.spoke[producer] = m.time
+	}
+	return e
 }
 
 func (m *model) End(producer, epoch int, commit bool) api.Errno {
@@ -171,10 +199,128 @@ func (m *model) End(producer, epoch int, commit bool) api.Errno {
 	if commit {
 		detail = 1
 	}
-	if e == api.OK && !m.note(api.REnd, producer, detail, p.Txn) {
+	if e == api.OK && !m.end(producer, detail) {
 		return api.ErrDown
 	}
 	return e
+}
+
+// due tells whether a marker is, by when all those ahead of it were sent.
+func (m *model) due(sent []int) bool {
+	if len(sent) == 0 {
+		return true
+	}
+	later := 1
+	for range sent[1:] {
+		later = min(later*2, m.c.Backoff)
+	}
+	return m.time >= sent[len(sent)-1]+later
+}
+
+func (m *model) Tick() api.Errno {
+	if !m.up {
+		return api.ErrDown
+	}
+	m.time++
+	for n := range m.c.Producers {
+		p := m.at(n)
+		if p.Status == api.Ongoing && m.time >= m.spoke[n]+m.c.Timeout && !m.abort(n) {
+			return api.ErrDown
+		}
+		for _, part := range p.Pending {
+			if m.due(m.told[n][part]) {
+				m.told[n][part] = append(m.told[n][part], m.time)
+				m.send(api.Message{Kind: api.MMarker, Part: part, Producer: n, Txn: p.Txn, Commit: p.Status == api.Committing})
+			}
+		}
+	}
+	return api.OK
+}
+
+func (m *model) send(x api.Message) {
+	if len(m.flight) < 100 {
+		m.flight = append(m.flight, x)
+	}
+}
+
+func (m *model) Flight() int { return len(m.flight) }
+
+func (m *model) Message(k int) (api.Message, api.Errno) {
+	if k < 0 || k >= len(m.flight) {
+		return api.Message{}, api.ErrNone
+	}
+	return m.flight[k], api.OK
+}
+
+func (m *model) Drop(k int) api.Errno {
+	_, e := m.Message(k)
+	if e == api.OK {
+		m.flight = append(slices.Clone(m.flight[:k]), m.flight[k+1:]...)
+	}
+	return e
+}
+
+func (m *model) Copy(k int) api.Errno {
+	x, e := m.Message(k)
+	if e == api.OK {
+		m.send(x)
+	}
+	return e
+}
+
+func (m *model) Deliver(k int) api.Errno {
+	x, e := m.Message(k)
+	if e != api.OK {
+		return e
+	}
+	m.Drop(k)
+	if x.Kind == api.MAck {
+		m.atKeeper(x)
+	} else if !m.out[x.Part] {
+		m.atPart(x)
+		x.Kind = api.MAck
+		m.send(x)
+	}
+	return api.OK
+}
+
+func (m *model) atPart(x api.Message) { m.logs[x.Part].Close(x.Producer, x.Txn, x.Commit) }
+
+func (m *model) atKeeper(x api.Message) {
+	p := m.at(x.Producer)
+	if !m.up || p.Txn != x.Txn || len(p.Pending) == 0 {
+		return
+	}
+	if len(p.Pending) == 1 && p.Pending[0] == x.Part {
+		m.note(api.RDone, x.Producer, 0, x.Txn)
+	} else {
+		m.acked[x.Producer][x.Part] = true
+	}
+}
+
+func (m *model) Round() int {
+	var acks []api.Message
+	all := m.flight
+	m.flight = nil
+	for _, x := range all {
+		if x.Kind == api.MAck {
+			acks = append(acks, x)
+		}
+	}
+	for part := range m.c.Parts {
+		for _, x := range all {
+			if x.Kind == api.MMarker && x.Part == part && !m.out[part] {
+				m.atPart(x)
+				x.Kind = api.MAck
+				acks = append(acks, x)
+			}
+		}
+	}
+	for _, x := range acks {
+		m.atKeeper(x)
+	}
+	m.Tick()
+	return len(all)
 }
 
 func (m *model) Out(part int, out bool) api.Errno {
@@ -206,6 +352,11 @@ func (m *model) Restart() api.Errno {
 		return api.ErrUp
 	}
 	m.up, m.tail = true, ""
+	for n := range m.c.Producers {
+		m.spoke[n] = m.time
+		m.acked[n] = [api.MaxParts]bool{}
+		m.told[n] = [api.MaxParts][]int{}
+	}
 	return api.OK
 }
 
@@ -238,119 +389,10 @@ func (m *model) Fetch(part, from, most int) ([]api.Record, api.Errno) {
 	return m.logs[part].Fetch(from, most), api.OK
 }
 
-func (m *model) Flight() int { return 0 }
-
 func (m *model) Journal() string {
 	var b strings.Builder
 	for _, d := range m.deeds {
 		b.WriteString(record(d.kind, d.producer, d.detail, d.number))
 	}
 	return b.String() + m.tail
-}
-
-// drawNumber: mostly one below this, at times the one at its edge or far off.
-func drawNumber(r *rand.Rand, below int) int {
-	if r.Intn(15) == 0 {
-		return append(none, -1, below)[r.Intn(len(none)+2)]
-	}
-	return r.Intn(below)
-}
-
-// drawEpoch: mostly the producer's own.
-func drawEpoch(r *rand.Rand, m *model, producer int) int {
-	epoch := m.at(producer).Epoch
-	if r.Intn(8) == 0 {
-		return []int{epoch - 1, epoch + 1, 0, -1, -epoch, math.MinInt, math.MaxInt}[r.Intn(7)]
-	}
-	return epoch
-}
-
-// chance is how often each call is drawn.
-type chance struct{ init, add, produce, end, out, breaks, crash, restart int }
-
-// step makes one drawn call of both, and holds all that they tell against each other.
-func step(h hand, r *rand.Rand, m *model, c chance) api.Errno {
-	h.t.Helper()
-	producer, part := drawNumber(r, h.c.Producers), drawNumber(r, h.c.Parts)
-	epoch, yes := drawEpoch(r, m, producer), r.Intn(2) == 0
-	var want api.Errno
-	n := r.Intn(c.init + c.add + c.produce + c.end + c.out + c.breaks + c.crash + c.restart)
-	below := func(share int) bool { n -= share; return n < 0 }
-	switch {
-	case below(c.init):
-		var given int
-		given, want = m.Init(producer)
-		h.init(producer, given, want)
-	case below(c.add):
-		want = m.Add(producer, epoch, part)
-		h.add(producer, epoch, part, want)
-	case below(c.produce):
-		text := strings.Repeat(string([]byte{byte(r.Intn(256))}), r.Intn(10))
-		want = m.Produce(producer, epoch, part, text)
-		h.produce(producer, epoch, part, text, want)
-	case below(c.end):
-		want = m.End(producer, epoch, yes)
-		h.end(producer, epoch, yes, want)
-	case below(c.out):
-		want = m.Out(part, yes)
-		h.out(part, yes, want)
-	case below(c.breaks):
-		keep := drawNumber(r, 18)
-		want = m.Break(keep)
-		h.breaks(keep, want)
-	case below(c.crash):
-		want = m.Crash()
-		h.crash(want)
-	default:
-		want = m.Restart()
-		h.restart(want)
-	}
-	h.stays(tell(m, h.c))
-	return want
-}
-
-func drawConfig(r *rand.Rand) api.Config {
-	return api.Config{Producers: 1 + r.Intn(6), Parts: 1 + r.Intn(4), Timeout: 1 + r.Intn(50), Backoff: 1 + r.Intn(16)}
-}
-
-func TestDrawnCallsAgainstTheModel(t *testing.T) { // P5 to P8, P11, P12, P14
-	seen := map[api.Errno]int{}
-	for seed := range 400 {
-		r := rand.New(rand.NewSource(int64(seed)))
-		c := drawConfig(r)
-		h, m := fresh(t, c), newModel(c)
-		for range 80 {
-			seen[step(h, r, m, chance{init: 8, add: 10, produce: 12, end: 2, out: 4, breaks: 3, crash: 1, restart: 4})]++
-		}
-	}
-	for e := api.OK; e <= api.ErrNot; e++ {
-		if e != api.ErrConfig && seen[e] == 0 {
-			t.Errorf("no drawn call was answered by the error %d", e)
-		}
-	}
-}
-
-func TestDrawnCallsNearAFullLog(t *testing.T) { // P7
-	full := 0
-	for seed := range 20 {
-		r := rand.New(rand.NewSource(int64(seed)))
-		c := api.Config{Producers: 6, Parts: 2, Timeout: 5, Backoff: 4}
-		h, m := fresh(t, c), newModel(c)
-		for n := range c.Producers {
-			epoch, e := m.Init(n)
-			h.init(n, epoch, e)
-		}
-		h.add(0, 1, 0, m.Add(0, 1, 0))
-		for range api.MaxLog - 3 {
-			h.produce(0, 1, 0, "x", m.Produce(0, 1, 0, "x"))
-		}
-		for range 60 {
-			if step(h, r, m, chance{add: 20, produce: 40, end: 1, out: 10, breaks: 2, crash: 1, restart: 8}) == api.ErrFull {
-				full++
-			}
-		}
-	}
-	if full == 0 {
-		t.Error("no drawn log came to be full")
-	}
 }

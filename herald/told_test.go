@@ -8,7 +8,7 @@ import (
 	"herald/api"
 )
 
-// busy is a herald with a producer of each status that needs no time, and something in each of its logs.
+// busy is a herald with a producer of each status, something in each of its logs, and nothing in flight yet.
 func busy(t *testing.T) hand {
 	t.Helper()
 	h := fresh(t, api.Config{Producers: 5, Parts: 3, Timeout: 5, Backoff: 4})
@@ -60,6 +60,19 @@ func TestWrongNumbersTellNothing(t *testing.T) { // P1, P14
 		h.stays(before)
 		h.Crash()
 	}
+}
+
+func TestProducerTellsWhoHasNotAcknowledged(t *testing.T) { // P14
+	h := busy(t)
+	h.tick(api.OK)
+	h.flight(marker(0, 1, 1, true), marker(1, 1, 1, true), marker(2, 1, 1, true), marker(0, 2, 1, false), marker(1, 2, 1, false), marker(2, 2, 1, false))
+	h.deliver(1, api.OK)
+	h.deliver(4, api.OK)
+	h.deliver(4, api.OK)
+	h.deliver(4, api.OK)
+	h.producer(1, waiting(1, 1, true, []int{0, 1, 2}, []int{0, 2}))
+	h.producer(2, waiting(1, 1, false, []int{0, 1, 2}, []int{0, 1}))
+	h.producer(0, ongoing(1, 1, 0, 1, 2))
 }
 
 func TestPartsTellWhatTheirLogsTell(t *testing.T) { // P14
@@ -173,6 +186,20 @@ func TestHeraldsKnowNothingOfOneAnother(t *testing.T) { // P2
 	b.producer(0, ongoing(2, 1, 1))
 	b.entries(0)
 	b.entries(1, data(0, 1, "b"))
+	b.ticks(4) // nor of one another's time
+	a.restart(api.OK)
+	a.tick(api.OK)
+	a.producer(0, ongoing(1, 1, 0))
+	b.tick(api.OK)
+	b.producer(0, ending(2, 1, false, 1))
+	b.round(0)
+	b.flight(marker(1, 0, 1, false))
+	a.flight()
+	a.round(0)
+	b.flight(marker(1, 0, 1, false))
+	b.round(1)
+	b.producer(0, idle(2, 1))
+	a.producer(0, ongoing(1, 1, 0))
 }
 
 func TestAnyNumbersAndTexts(t *testing.T) { // P1
@@ -197,6 +224,12 @@ func TestAnyNumbersAndTexts(t *testing.T) { // P1
 			}
 			h.Init(a)
 			h.Break(a)
+			h.Tick()
+			h.Message(a)
+			h.Copy(a)
+			h.Deliver(a)
+			h.Drop(a)
+			h.Round()
 			h.Out(a, a > 2)
 			h.Producer(a)
 			h.Part(a)
